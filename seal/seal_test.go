@@ -55,7 +55,7 @@ func stays(was, b []byte) bool {
 	return bytes.Equal(b[:len(was)], was) && bytes.Equal(b[len(was):len(was)+8], []byte{71, 72, 73, 74, 75, 76, 77, 78})
 }
 
-// P1: the sum, of the document's example and of many others.
+// P2.1: the sum, of the document's example and of many others.
 func TestSum(t *testing.T) {
 	if x := seal.Sum([]byte("123456789")); x != 0xe3069283 {
 		t.Errorf("the example's sum is %x", x)
@@ -74,7 +74,7 @@ func TestSum(t *testing.T) {
 	}
 }
 
-// P1: what is sealed is the bytes and their sum, the lowest byte first, in new memory.
+// P2.1: what is sealed is the bytes and their sum, the lowest byte first, in new memory.
 func TestSeal(t *testing.T) {
 	if x := seal.Seal(nil); !bytes.Equal(x, []byte{0, 0, 0, 0}) {
 		t.Errorf("no bytes: %x", x)
@@ -92,7 +92,7 @@ func TestSeal(t *testing.T) {
 	}
 }
 
-// P2: what is sealed is opened as it was, and what was handed in stays.
+// P2.2: what is sealed is opened as it was, and what was handed in stays.
 func TestOpen(t *testing.T) {
 	for _, b := range samples() {
 		sealed := plainSeal(b)
@@ -108,7 +108,7 @@ func TestOpen(t *testing.T) {
 	}
 }
 
-// P1: fewer than four bytes are too short, whatever they are; four are enough.
+// P2.1: fewer than four bytes are too short, whatever they are; four are enough.
 func TestOpenShort(t *testing.T) {
 	for n := range 4 {
 		for _, x := range []byte{0, 1, 255} {
@@ -127,7 +127,7 @@ func TestOpenShort(t *testing.T) {
 	}
 }
 
-// P1: bytes that nobody sealed, or whose sum lies the other way round or elsewhere, are not opened.
+// P2.1: bytes that nobody sealed, or whose sum lies the other way round or elsewhere, are not opened.
 func TestOpenOthers(t *testing.T) {
 	for _, b := range samples() {
 		right := plainSum(b)
@@ -148,7 +148,7 @@ func TestOpenOthers(t *testing.T) {
 	}
 }
 
-// P1: one bit is turned, that one, in new memory.
+// P2.1: one bit is turned, that one, in new memory.
 func TestTurn(t *testing.T) {
 	b := []byte{0, 255, 0x5a, 7}
 	for bit := range 8 * len(b) {
@@ -170,7 +170,7 @@ func TestTurn(t *testing.T) {
 	}
 }
 
-// P1: where there is no such bit all stay as they are.
+// P2.1: where there is no such bit all stay as they are.
 func TestTurnNone(t *testing.T) {
 	for _, b := range [][]byte{nil, {}, {0}, {255, 1}, []byte("123456789")} {
 		n := 8 * len(b)
@@ -196,7 +196,7 @@ func turned(b []byte, from int, pattern uint64) []byte {
 	return b
 }
 
-// P2: turned bits within 32 beside one another are caught, whatever they are and wherever, in the sum and over its beginning, too.
+// P2.2: turned bits within 32 beside one another are caught, whatever they are and wherever, in the sum and over its beginning, too.
 func TestShortBursts(t *testing.T) {
 	r := rand.New(rand.NewSource(22))
 	for _, n := range []int{0, 1, 3, 4, 9, 28, 60, 200} {
@@ -214,7 +214,7 @@ func TestShortBursts(t *testing.T) {
 	}
 }
 
-// P2 is sharp: one burst of 33 bits goes through, which shows that the sum is the document's own and its bits lie as told.
+// P2.2 is sharp: one burst of 33 bits goes through, which shows that the sum is the document's own and its bits lie as told.
 func TestBurstOf33(t *testing.T) {
 	b := []byte("what is sealed")
 	sealed := seal.Seal(b)
@@ -225,7 +225,7 @@ func TestBurstOf33(t *testing.T) {
 	}
 }
 
-// P2: short samples, each bit and each two beside one another within 32.
+// P2.2: short samples, each bit and each two beside one another within 32.
 func TestTwoBits(t *testing.T) {
 	sealed := seal.Seal([]byte("123456789"))
 	for a := range 8 * len(sealed) {
